@@ -4,6 +4,7 @@ KINDS = (
     "page", "part", "h1", "h2", "h3", "p", "link", "button", "field", "check",
     "list", "item", "table", "row", "cell", "th", "image", "live", "modal",
 )
+LEVELS = {"h1": 1, "h2": 2, "h3": 3}
 NOWHERE = -1
 
 
@@ -32,6 +33,7 @@ class Page:
         self.around = boxes_around(boxes)
         self.own = own_boxes(self.around)
         self.places = places_of(boxes)
+        self.live = innermost_live(boxes, self.around)
 
 
 def boxes_around(boxes):
@@ -57,6 +59,23 @@ def places_of(boxes):
     for at, box in enumerate(boxes):
         places[box.ident] = at
     return places
+
+
+def innermost_live(boxes, around):
+    """For each box the innermost live box that it is or is in, or nowhere."""
+    live = []
+    for at, box in enumerate(boxes):
+        outer = around[at]
+        if box.kind == "live":
+            live.append(at)
+        else:
+            live.append(NOWHERE if outer == NOWHERE else live[outer])
+    return live
+
+
+def level_of(box):
+    """A heading's level; 0 for all other boxes."""
+    return LEVELS.get(box.kind, 0)
 
 
 def does_something(box):

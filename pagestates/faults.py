@@ -1,8 +1,6 @@
 """The nine kinds of faults."""
 
-from pagestates.boxes import NOWHERE, does_something
-
-LEVELS = {"h1": 1, "h2": 2, "h3": 3}
+from pagestates.boxes import NOWHERE, does_something, level_of
 
 
 def said_with_focus(scene, at):
@@ -10,8 +8,8 @@ def said_with_focus(scene, at):
 
 
 def has_no_name(scene, at):
-    kind = scene.page.boxes[at].kind
-    needs_name = scene.rules[at].focus or kind in LEVELS or kind in ("image", "modal")
+    box = scene.page.boxes[at]
+    needs_name = scene.rules[at].focus or level_of(box) > 0 or box.kind in ("image", "modal")
     return scene.said[at] and scene.names[at] == "" and needs_name
 
 
@@ -37,13 +35,13 @@ def has_namesake(scene, at):
 
 def skips_level(scene, at):
     boxes = scene.page.boxes
-    if not scene.said[at] or boxes[at].kind not in LEVELS:
+    if not scene.said[at]:
         return False
     level = 0
     for before in range(at):
-        if scene.said[before] and boxes[before].kind in LEVELS:
-            level = LEVELS[boxes[before].kind]
-    return LEVELS[boxes[at].kind] > level + 1
+        if scene.said[before] and level_of(boxes[before]) > 0:
+            level = level_of(boxes[before])
+    return level_of(boxes[at]) > level + 1
 
 
 def hides_text(scene, at):
@@ -68,18 +66,14 @@ def lacks_heads(scene, at):
     return scene.page.boxes[at].kind == "cell" and scene.said[at] and not has_heads(scene, at)
 
 
-def inner_name(scene, ident):
-    return scene.inner[scene.page.places[ident]]
-
-
 def has_empty_hint(scene, at):
     hint = scene.page.boxes[at].hint
-    return scene.said[at] and hint != "" and inner_name(scene, hint) == ""
+    return scene.said[at] and hint != "" and scene.inner_name(hint) == ""
 
 
 def has_empty_labels(scene, at):
     by = scene.page.boxes[at].by
-    return scene.said[at] and len(by) > 0 and all([inner_name(scene, ident) == "" for ident in by])
+    return scene.said[at] and len(by) > 0 and all([scene.inner_name(ident) == "" for ident in by])
 
 
 def lacks_focus(scene, at):

@@ -35,12 +35,10 @@ def gift(page, state, inner, at, source):
     return inner_gift(page, state, inner, at, source)
 
 
-def box_names(page, rules, state, inner):
-    names = []
-    for at, box in enumerate(page.boxes):
-        name = ""
-        for source in rules[box.kind].sources:
-            if name == "":
-                name = gift(page, state, inner, at, source)
-        names.append(name)
-    return names
+def name_and_source(page, rules, state, inner, at):
+    """The box's name and the source that it comes from; both are empty if no source gives something."""
+    for source in rules[page.boxes[at].kind].sources:
+        name = gift(page, state, inner, at, source)
+        if name != "":
+            return (name, source)
+    return ("", "")

@@ -26,6 +26,10 @@ RULES_AT_FIRST = [
 STATES = [4]
 RESET = [3]
 WAY = [5]
+TRAP = [8]
+DEAD = [9]
+UNSEEN = [10]
+SPEAKS = [12]
 SIZE = [13]
 
 
@@ -69,6 +73,10 @@ def reach(ident):
     return with_bytes(7, ident)
 
 
+def told(ident):
+    return with_bytes(11, ident)
+
+
 def split_answers(numbers):
     split = []
     while numbers:
@@ -96,6 +104,20 @@ def text(string):
 
 def row(*idents):
     return [len(idents)] + [number for ident in idents for number in text(ident)]
+
+
+def found_trap(deeds, modal):
+    return [1] + row(*deeds) + text(modal)
+
+
+def news(*boxes):
+    """What's told by itself: for each box three texts, the live box's id, its own, and what's said."""
+    return [len(boxes)] + [number for box in boxes for string in box for number in text(string)]
+
+
+def found_news(deeds, ident, *boxes):
+    """What speaks answers when something is told by itself."""
+    return [1] + row(*deeds) + text(ident) + news(*boxes)
 
 
 def found_fault(deeds, many, kind, ident, other=""):

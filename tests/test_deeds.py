@@ -2,7 +2,8 @@
 
 import unittest
 
-from lines import RESET, SIZE, STATES, WAY, faulty, last, page, press, reach, row, rules, said
+from lines import DEAD, RESET, SIZE, SPEAKS, STATES, TRAP, UNSEEN, WAY
+from lines import faulty, last, page, press, reach, row, rules, said, told
 
 # Five parts in one another, the last one a button, each flipped by a button of its own; and a modal to open and close.
 # The innermost button can be pressed in one state alone, and then nothing can be pressed any more.
@@ -47,15 +48,19 @@ class StatesTest(unittest.TestCase):
     def test_sixty_four_are_not_too_many(self):
         self.assertEqual(last(page(*checks(6)), STATES), [64, 6])
         self.assertEqual(last(page(*JUST_ENOUGH), STATES), [64, 6])
+        self.assertEqual(said(page(*JUST_ENOUGH), WAY, faulty(9), reach("n"), TRAP, DEAD, UNSEEN, SPEAKS)[1:],
+                         [[1, 0], [0], [1] + row("k"), [0], row("j"), row(), [0]])
 
     def test_more_than_sixty_four_are_too_many(self):
         for lines in (checks(7), checks(12), ONE_TOO_MANY):
-            for call in (STATES, WAY, reach("top"), faulty(0), faulty(9)):
+            for call in (STATES, WAY, reach("top"), faulty(0), faulty(9), TRAP, DEAD, UNSEEN, SPEAKS):
                 self.assertEqual(last(page(*lines), call), [-7], (lines, call))
 
     def test_too_many_states_change_nothing_else(self):
         self.assertEqual(said(page(*checks(7)), press("a"), STATES, WAY, SIZE, press("b"), RESET),
                          [[8], [0, 1], [-7], [-7], [8, 0, 1, 7], [0, 2], [0]])
+        self.assertEqual(said(page(*checks(7)), press("a"), TRAP, DEAD, UNSEEN, SPEAKS, SIZE, told("b"), press("b")),
+                         [[8], [0, 1], [-7], [-7], [-7], [-7], [8, 0, 1, 7], [0], [0, 2]])
 
 
 class WayTest(unittest.TestCase):

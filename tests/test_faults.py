@@ -111,6 +111,10 @@ class KindTest(unittest.TestCase):
         self.has(3, ["page top", "  h1 a", "    h2 b", "  h3 x"], "x")
         self.has(3, ["page top", "  h3 a", "  h3 b", "  h1 c", "  h3 x"], "a", many=2)
 
+    def test_3_other_boxes_between_headings(self):
+        self.has_not(3, ["page top", "  h1 a", "  p b", "  button c", "  h2 x"])
+        self.has(3, ["page top", "  h1 a", "  p b", "  h3 x"], "x")
+
     def test_4_own_text_in_the_name(self):
         self.has(4, ["page top", "  button x \"Go\" label \"Leave\""], "x")
         self.has(4, ["page top", "  button x \"Go\" label \"G o\""], "x")

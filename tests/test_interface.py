@@ -2,7 +2,8 @@
 
 import unittest
 
-from lines import RESET, SIZE, STATES, WAY, faulty, found_fault, page, press, reach, row, rules, said
+from lines import DEAD, RESET, SIZE, SPEAKS, STATES, TRAP, UNSEEN, WAY, faulty, found_fault, found_news, found_trap, news
+from lines import page, press, reach, row, rules, said, split_answers, told
 from pagestates.pages import answers
 
 EXAMPLE = [
@@ -25,15 +26,33 @@ def joined(*calls):
     return [number for call in calls for number in call]
 
 
-EVERY_CALL = joined(page(*EXAMPLE), rules("page page focus"), press("ask"), press("x"), press("q"), press("save"), SIZE, WAY,
-                    STATES, faulty(0), faulty(-1), reach("q"), reach("x"), RESET, page("page"), rules("page"), SIZE)
+# Each of the fourteen calls, and refusals between them.
+EVERY_CALL = joined(page(*EXAMPLE), rules("page page focus"), told("save"), press("ask"), press("x"), press("q"), press("save"),
+                    told("x"), SIZE, WAY, STATES, faulty(0), faulty(-1), reach("q"), reach("x"), TRAP, DEAD, UNSEEN, SPEAKS,
+                    told("save"), RESET, page("page"), rules("page"), told("q"), SIZE)
+SAVED = ("news", "done", "text \"Saved\"")
 
 
 class ExampleTest(unittest.TestCase):
     def test_example(self):
-        calls = [page(*EXAMPLE), STATES, faulty(0), reach("q"), press("save"), press("ask"), WAY, SIZE]
+        calls = [page(*EXAMPLE), STATES, TRAP, told("save"), faulty(0), reach("q"), SPEAKS, press("save"), press("ask"), WAY, SIZE]
         self.assertEqual(said(*calls), [
-            [8], [4, 2], found_fault([], 1, 1, "pic"), [1] + row("ask"), [1, 0], [0, 0], [1] + row("save", "ask"), [8, 0, 0, 2],
+            [8], [4, 2], found_trap(["ask"], "sure"), news(SAVED), found_fault([], 1, 1, "pic"), [1] + row("ask"),
+            found_news([], "save", SAVED), [1, 0], [0, 0], [1] + row("save", "ask"), [8, 0, 0, 2],
+        ])
+
+    def test_example_number_by_number(self):
+        saved = [4, 110, 101, 119, 115, 4, 100, 111, 110, 101, 12, 116, 101, 120, 116, 32, 34, 83, 97, 118, 101, 100, 34]
+        self.assertEqual(answers(joined(page(*EXAMPLE), [8], [11, 4, 115, 97, 118, 101], [12], [9], [10])), joined(
+            [1, 8], [11, 1, 1, 3, 97, 115, 107, 4, 115, 117, 114, 101], [24, 1] + saved,
+            [31, 1, 0, 4, 115, 97, 118, 101, 1] + saved, [1, 0], [1, 0],
+        ))
+
+    def test_all_fourteen_calls(self):
+        self.assertEqual(split_answers(answers(EVERY_CALL)), [
+            [8], [5], news(SAVED), [1, 0], [-3], [-5], [-6], [-3], [8, 1, 0, 3], [1] + row("ask"), [4, 2],
+            found_fault([], 2, 1, "top"), [-2], [1] + row("ask"), [-3], found_trap(["ask"], "sure"), row(), row(),
+            found_news([], "save", SAVED), [-6], [2], [-1], [-1], [-5], [8, 2, 0, 2],
         ])
 
 
@@ -43,7 +62,7 @@ class FormTest(unittest.TestCase):
         self.assertEqual(answers(calls), [1, 2, 2, 0, 1, 5, 1, 1, 2, 97, 98, 8, 1, 0, 1, 1, 2, 97, 98, 0, 1, -2, 4, 2, 0, 1, 1])
 
     def test_texts_of_no_bytes(self):
-        self.assertEqual(answers([0, 0, 1, 0, 2, 0, 7, 0, 13]), [1, -1, 1, -1, 1, -3, 1, -3, 4, 1, 0, 0, 0])
+        self.assertEqual(answers([0, 0, 1, 0, 2, 0, 7, 0, 11, 0, 13]), [1, -1, 1, -1, 1, -3, 1, -3, 1, -3, 4, 1, 0, 0, 0])
 
     def test_any_call_may_be_first(self):
         self.assertEqual(answers([3]), [1, 0])
@@ -51,6 +70,12 @@ class FormTest(unittest.TestCase):
         self.assertEqual(answers([5]), [2, 1, 0])
         self.assertEqual(answers([6, 0]), [1, 0])
         self.assertEqual(answers([7, 3, 116, 111, 112]), [2, 1, 0])
+        self.assertEqual(answers([8]), [1, 0])
+        self.assertEqual(answers([9]), [1, 0])
+        self.assertEqual(answers([10]), [1, 0])
+        self.assertEqual(answers([11, 3, 116, 111, 112]), [1, -5])
+        self.assertEqual(answers([11, 1, 97]), [1, -3])
+        self.assertEqual(answers([12]), [1, 0])
         self.assertEqual(answers([13]), [4, 1, 0, 0, 0])
 
     def test_long_texts(self):
@@ -58,6 +83,7 @@ class FormTest(unittest.TestCase):
             text = [byte] * 4000
             self.assertEqual(answers([0, 4000] + text + [1, 4000] + text + [2, 4000] + text + [7, 4000] + text),
                              [1, -1, 1, -1, 1, -3, 1, -3])
+            self.assertEqual(answers([11, 4000] + text + [13]), [1, -3, 4, 1, 0, 0, 0])
 
     def test_whole_numbers_alone(self):
         given = answers(EVERY_CALL)
@@ -66,6 +92,7 @@ class FormTest(unittest.TestCase):
 
     def test_twenty_five_calls(self):
         self.assertEqual(answers([4] * 25), [2, 1, 0] * 25)
+        self.assertEqual(answers([12] * 25), [1, 0] * 25)
 
     def test_what_is_handed_in_stays(self):
         calls = NeverChanged(EVERY_CALL)

@@ -124,6 +124,16 @@ class LanguageTest(unittest.TestCase):
             self.assertTrue(ready, "files draw from one another")
             done |= ready
 
+    def test_no_local_is_called_like_an_import_or_a_class(self):
+        for name, tree in trees():
+            taken = {alias.name for part in tree.body if isinstance(part, ast.ImportFrom) for alias in part.names}
+            taken |= {part.name for part in tree.body if isinstance(part, ast.ClassDef)}
+            for node in ast.walk(tree):
+                if isinstance(node, ast.arg):
+                    self.assertNotIn(node.arg, taken, (name, node.lineno))
+                elif isinstance(node, ast.Name) and isinstance(node.ctx, ast.Store):
+                    self.assertNotIn(node.id, taken, (name, node.lineno))
+
     def test_walked_at_once(self):
         allowed = set()
         for _, node in nodes(ast.AST):
